@@ -1,0 +1,1 @@
+"""Rules with exceptions: axioms that always hold, and rules that normally hold."""
