@@ -47,6 +47,13 @@ def concept_end(numbers, start):
     return at
 
 
+# None if the numbers are not exactly one concept.
+def one_concept(numbers):
+    if concept_end(numbers, 0) != len(numbers):
+        return None
+    return tuple(numbers)
+
+
 # None if the numbers are not exactly two concepts.
 def two_concepts(numbers):
     middle = concept_end(numbers, 0)

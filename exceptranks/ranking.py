@@ -1,4 +1,4 @@
-"""The ranks of rules, and what normally holds by them."""
+"""The ranks of rules, and what normally and always holds by them."""
 
 from exceptranks.concepts import NOTHING
 
@@ -33,6 +33,10 @@ class Ranking:
         # The last level is empty, so it is none of the ranks.
         self.levels = levels[:-1]
 
+    # 0 for a rule that was removed because it is in a last rank that is not empty.
+    def ranks_with(self, rule):
+        return len([rules for rules in self.levels if rule in rules])
+
     def rank_of(self, concept):
         found = self.possible & self.kinds.having(concept)
         for place, rules in enumerate(self.levels):
@@ -44,4 +48,10 @@ class Ranking:
         place = self.rank_of(first)
         rules = self.levels[place] if place < len(self.levels) else []
         normal = self.possible & self.kinds.having(first) & self.kinds.satisfying(rules)
-        return normal & (self.kinds.every ^ self.kinds.having(second)) == 0
+        return self.all_have(normal, second)
+
+    def always_holds(self, first, second):
+        return self.all_have(self.possible & self.kinds.having(first), second)
+
+    def all_have(self, found, concept):
+        return found & (self.kinds.every ^ self.kinds.having(concept)) == 0

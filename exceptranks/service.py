@@ -4,7 +4,7 @@ An operation gives back the numbers of its answer; an error is one number below 
 Each operation looks for all errors, in the document's order, before it changes anything.
 """
 
-from exceptranks.concepts import atoms_in, two_concepts
+from exceptranks.concepts import atoms_in, one_concept, two_concepts
 from exceptranks.kinds import Kinds
 from exceptranks.ranking import Ranking
 
@@ -50,6 +50,33 @@ class Service:
         if self.has_too_many_atoms(pair):
             return [-7]
         return [1 if self.ranking_with(pair).normally_holds(pair[0], pair[1]) else 0]
+
+    def always(self, numbers):
+        pair = two_concepts(numbers)
+        if pair is None:
+            return [-1]
+        if self.has_too_many_atoms(pair):
+            return [-7]
+        return [1 if self.ranking_with(pair).always_holds(pair[0], pair[1]) else 0]
+
+    def rank(self, numbers):
+        concept = one_concept(numbers)
+        if concept is None:
+            return [-1]
+        if self.has_too_many_atoms((concept,)):
+            return [-7]
+        ranking = self.ranking_with((concept,))
+        return [ranking.rank_of(concept), len(ranking.levels)]
+
+    def ranks(self):
+        ranking = self.ranking_with(())
+        return [len(ranking.levels)] + [ranking.ranks_with(rule) for rule in self.rules]
+
+    def drop(self, index):
+        if index >= len(self.rules):
+            return [-2]
+        self.rules.pop(index)
+        return [len(self.rules)]
 
     def atoms_with(self, concepts):
         return atoms_in(self.axioms + self.rules + [concepts])

@@ -57,6 +57,22 @@ def normally(*parts):
     return [3] + row(parts)
 
 
+def always(*parts):
+    return [4] + row(parts)
+
+
+def rank(*parts):
+    return [5] + row(parts)
+
+
+def ranks():
+    return [6]
+
+
+def drop(index):
+    return [7, index]
+
+
 def ask(*calls):
     """The answers to the calls, each as a list of its numbers."""
     given = answers([number for call in calls for number in call])

@@ -11,7 +11,8 @@ import random
 import unittest
 
 from tests.asking import (
-    ALL, NONE, A, B, C, D, ask, begins, both, either, lacks, line, normally, only, rule, some,
+    ALL, NONE, A, B, C, D, always, ask, begins, both, drop, either, lacks, line, normally, only, rank, ranks, rule,
+    some,
 )
 
 
@@ -35,12 +36,14 @@ def read(numbers):
     return concept, rest
 
 
-def read_two(numbers):
-    first, rest = read(numbers)
-    second, rest = read(rest)
-    if rest:
+def read_exactly(amount, numbers):
+    found = []
+    for number in range(amount):
+        concept, numbers = read(numbers)
+        found.append(concept)
+    if numbers:
         raise Malformed
-    return first, second
+    return found
 
 
 def atoms_of(concept):
@@ -122,34 +125,61 @@ class Defined:
         self.rules = []
 
     def answer(self, call):
-        if call == [0]:
+        if call[0] == 0:
             self.axioms, self.rules = [], []
-            return 0
+            return [0]
+        if call[0] == 6:
+            return self.ranks()
+        if call[0] == 7:
+            return self.drop(call[1])
         try:
-            pair = read_two(tuple(call[2:]))
+            concepts = read_exactly(1 if call[0] == 5 else 2, tuple(call[2:]))
         except Malformed:
-            return -1
-        full = (call[0] == 1 and len(self.axioms) == 3) or (call[0] == 2 and len(self.rules) == 4)
-        atoms = set()
-        for concept in itertools.chain(pair, *self.axioms, *self.rules):
-            atoms |= atoms_of(concept)
-        if full or len(atoms) > 4:
-            return -7
-        if call[0] == 3:
-            return self.normally(sorted(atoms, key=repr), pair)
-        if call[0] == 2 and pair in self.rules:
-            return -4
-        kept = self.axioms if call[0] == 1 else self.rules
-        kept.append(pair)
-        return len(kept) - 1
+            return [-1]
+        if (call[0] == 1 and len(self.axioms) == 3) or (call[0] == 2 and len(self.rules) == 4):
+            return [-7]
+        if len(self.atoms(concepts)) > 4:
+            return [-7]
+        if call[0] in (1, 2):
+            return self.add(call[0], tuple(concepts))
+        return self.question(call[0], concepts)
 
-    def normally(self, atoms, pair):
-        ranks, model = ranks_and_model(atoms, self.axioms, self.rules)
-        for rules in ranks + [[]]:
-            if not is_exceptional(pair[0], rules, model):
-                break
-        found = all(has(element, pair[1]) for element in model if has(element, pair[0]) and satisfies(element, rules))
-        return 1 if found else 0
+    def atoms(self, concepts):
+        found = set()
+        for concept in itertools.chain(concepts, *self.axioms, *self.rules):
+            found |= atoms_of(concept)
+        return sorted(found, key=repr)
+
+    def add(self, form, pair):
+        if form == 2 and pair in self.rules:
+            return [-4]
+        kept = self.axioms if form == 1 else self.rules
+        kept.append(pair)
+        return [len(kept) - 1]
+
+    def drop(self, index):
+        if index not in range(len(self.rules)):
+            return [-2]
+        self.rules = [pair for number, pair in enumerate(self.rules) if number != index]
+        return [len(self.rules)]
+
+    def ranks(self):
+        found, model = ranks_and_model(self.atoms([]), self.axioms, self.rules)
+        return [len(found)] + [sum(1 for rules in found if pair in rules) for pair in self.rules]
+
+    def question(self, form, concepts):
+        found, model = ranks_and_model(self.atoms(concepts), self.axioms, self.rules)
+        place = 0
+        while place < len(found) and is_exceptional(concepts[0], found[place], model):
+            place += 1
+        if form == 5:
+            return [place, len(found)]
+        if form == 4:
+            rules = []
+        else:
+            rules = (found + [[]])[place]
+        normal = [element for element in model if has(element, concepts[0]) and satisfies(element, rules)]
+        return [1 if all(has(element, concepts[1]) for element in normal) else 0]
 
 
 POOLS = [
@@ -176,39 +206,51 @@ class ByDefinition(unittest.TestCase):
         return form(self.concept(chance, pool, depth - 1), self.concept(chance, pool, depth - 1))
 
     def call(self, chance, pool, form):
+        if form in (begins, ranks):
+            return form()
+        if form == drop:
+            return drop(chance.choice([0, 0, 0, 1, 1, 2, 3, 4, 4294967295]))
         while True:
-            numbers = self.concept(chance, pool, 2) + self.concept(chance, pool, 2)
+            numbers = self.concept(chance, pool, 2)
+            if form != rank:
+                numbers += self.concept(chance, pool, 2)
             if chance.random() < 0.04:
                 place = chance.randrange(len(numbers) + 1)
                 numbers = numbers[:place] + chance.choice([(), (0,), (4,), (9,), (4294967295,)]) + numbers[place + 1:]
             if len(numbers) <= 30:
                 return form(numbers)
 
-    def calls(self, chance):
-        pool = chance.choice(POOLS)
-        forms = [normally] * 10 + [rule] * chance.randrange(9) + [line] * chance.randrange(5)
-        forms += [begins] * chance.randrange(2)
-        chance.shuffle(forms)
-        return [begins() if form == begins else self.call(chance, pool, form) for form in forms]
+    def questions(self, chance):
+        return [chance.choice([normally, normally, always, rank, ranks]) for number in range(10)]
+
+    def check(self, calls):
+        defined = Defined()
+        with self.subTest(calls=calls):
+            self.assertEqual(ask(*calls), [defined.answer(call) for call in calls])
 
     def test_random_lists(self):
         chance = random.Random(2026)
         for number in range(600):
-            calls = self.calls(chance)
-            defined = Defined()
-            with self.subTest(number=number, calls=calls):
-                self.assertEqual(ask(*calls), [[defined.answer(call)] for call in calls])
+            pool = chance.choice(POOLS)
+            forms = self.questions(chance) + [rule] * chance.randrange(9) + [line] * chance.randrange(5)
+            forms += [begins] * chance.randrange(2) + [drop] * chance.randrange(5)
+            chance.shuffle(forms)
+            self.check([self.call(chance, pool, form) for form in forms])
 
     def test_rules_ahead_of_what_is_asked(self):
         chance = random.Random(1)
         for number in range(600):
             pool = chance.choice(POOLS)
-            calls = [self.call(chance, pool, line) for time in range(chance.randrange(3))]
-            calls += [self.call(chance, pool, rule) for time in range(chance.randrange(2, 5))]
-            calls += [self.call(chance, pool, normally) for time in range(10)]
-            defined = Defined()
-            with self.subTest(number=number, calls=calls):
-                self.assertEqual(ask(*calls), [[defined.answer(call)] for call in calls])
+            forms = [line] * chance.randrange(3) + [rule] * chance.randrange(2, 5) + self.questions(chance)
+            self.check([self.call(chance, pool, form) for form in forms])
+
+    def test_rules_dropped_ahead_of_what_is_asked(self):
+        chance = random.Random(7)
+        for number in range(300):
+            pool = chance.choice(POOLS)
+            forms = [line] * chance.randrange(3) + [rule] * 4 + [ranks, drop] + self.questions(chance)[:4]
+            forms += [rule, ranks, drop] + self.questions(chance)[:4]
+            self.check([self.call(chance, pool, form) for form in forms])
 
 
 if __name__ == "__main__":

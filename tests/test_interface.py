@@ -4,8 +4,10 @@ import inspect
 import unittest
 
 import exceptranks.defaults
-from exceptranks.defaults import answers
-from tests.asking import ALL, NONE, A, B, C, D, ask, begins, both, firsts, lacks, line, normally, rule, some
+from exceptranks.defaults import UnknownCall, answers
+from tests.asking import (
+    ALL, NONE, A, B, C, D, always, ask, begins, both, drop, firsts, lacks, line, normally, rank, ranks, rule, some,
+)
 
 
 class Guarded(list):
@@ -24,9 +26,14 @@ def joined(*calls):
 
 SOME_CALLS = joined(
     line(B, A), rule(A, C), rule(B, lacks(C)), rule(A, C), rule(A), line(A, some(0, D)), normally(A, C), normally(B, C),
-    normally(D, some(1, D)), begins(), normally(A, C), line(ALL, NONE), normally(A, C), rule(A, C), normally(),
+    normally(D, some(1, D)), rank(B), ranks(), always(B, A), always(A, C), drop(2), drop(0), ranks(), rank(both(B, C)),
+    begins(), normally(A, C), line(ALL, NONE), normally(A, C), rule(A, C), normally(), rank(), ranks(),
 )
-THEIR_ANSWERS = [1, 0, 1, 0, 1, 1, 1, -4, 1, -1, 1, -7, 1, 1, 1, 0, 1, -7, 1, 0, 1, 0, 1, 0, 1, 1, 1, 0, 1, -1]
+THEIR_ANSWERS = [
+    1, 0, 1, 0, 1, 1, 1, -4, 1, -1, 1, -7, 1, 1, 1, 0,
+    1, -7, 2, 1, 2, 3, 2, 1, 2, 1, 1, 1, 0, 1, -2, 1, 1, 2, 1, 1, 2, 1, 1,
+    1, 0, 1, 0, 1, 0, 1, 1, 1, 0, 1, -1, 1, -1, 2, 0, 0,
+]
 
 
 class Interface(unittest.TestCase):
@@ -47,6 +54,36 @@ class Interface(unittest.TestCase):
         self.assertEqual(answers([1, 0]), [1, -1])
         self.assertEqual(answers([2, 0]), [1, -1])
         self.assertEqual(answers([3, 0]), [1, -1])
+        self.assertEqual(answers([4, 2, 0, 1]), [1, 0])
+        self.assertEqual(answers([4, 2, 1, 0]), [1, 1])
+        self.assertEqual(answers([4, 0]), [1, -1])
+        self.assertEqual(answers([5, 1, 0]), [2, 0, 0])
+        self.assertEqual(answers([5, 2, 2, 0]), [2, 0, 0])
+        self.assertEqual(answers([5, 0]), [1, -1])
+        self.assertEqual(answers([6]), [1, 0])
+        self.assertEqual(answers([7, 0]), [1, -2])
+        self.assertEqual(answers([7, 4294967295]), [1, -2])
+
+    def test_ranks_has_nothing_behind_it(self):
+        self.assertEqual(answers([6, 6, 0, 6]), [1, 0, 1, 0, 1, 0, 1, 0])
+        self.assertEqual(answers([2, 2, 0, 1, 6, 0, 6]), [1, 0, 2, 0, 0, 1, 0, 1, 0])
+        self.assertEqual(answers([6, 7, 0, 6]), [1, 0, 1, -2, 1, 0])
+
+    def test_drop_has_one_number_without_a_length(self):
+        self.assertEqual(answers([7, 0, 0]), [1, -2, 1, 0])
+        self.assertEqual(answers([7, 6, 6]), [1, -2, 1, 0])
+        self.assertEqual(answers([7, 7, 7, 7]), [1, -2, 1, -2])
+        rules = [2, 2, 0, 0, 2, 2, 1, 0, 2, 2, 1, 1]
+        self.assertEqual(answers(rules + [7, 1, 6, 7, 2, 7, 1, 6]), [
+            1, 0, 1, 1, 1, 2, 1, 2, 3, 1, 1, 0, 1, -2, 1, 1, 2, 1, 1,
+        ])
+
+    def test_how_many_numbers_ranks_answers(self):
+        rules = [rule(A, B), rule(A, lacks(B)), rule(C, D), rule(both(C, A), D)]
+        for amount in range(5):
+            given = answers(joined(*rules[:amount], ranks()))
+            self.assertEqual(given[2 * amount], amount + 1)
+            self.assertEqual(len(given), 2 * amount + amount + 2)
 
     def test_numbers_of_a_row_are_no_calls(self):
         # A row of no numbers, and rows whose numbers could be calls of their own.
@@ -54,6 +91,15 @@ class Interface(unittest.TestCase):
         self.assertEqual(answers([1, 3, 0, 0, 0, 0]), [1, -1, 1, 0])
         self.assertEqual(answers([2, 4, 2, 1, 2, 0, 3, 4, 2, 1, 2, 0, 0, 3, 4, 2, 1, 2, 0]), [1, 0, 1, 1, 1, 0, 1, 0])
         self.assertEqual(answers([3, 4, 3, 2, 0, 1, 0, 0]), [1, -1, 1, 0, 1, 0])
+        self.assertEqual(answers([4, 3, 6, 0, 6, 6]), [1, -1, 1, 0])
+        self.assertEqual(answers([5, 2, 6, 6, 6]), [1, -1, 1, 0])
+        self.assertEqual(answers([5, 0, 6, 5, 3, 6, 0, 0, 6]), [1, -1, 1, 0, 2, 0, 0, 1, 0])
+        self.assertEqual(answers([5, 2, 7, 0, 7, 0]), [1, -1, 1, -2])
+
+    def test_there_are_no_other_calls(self):
+        for number in (8, 9, 4294967295):
+            with self.assertRaises(UnknownCall):
+                answers([0, number, 1, 0])
 
     def test_answers_are_lists_of_whole_numbers(self):
         given = answers(SOME_CALLS)
@@ -75,6 +121,8 @@ class Interface(unittest.TestCase):
         self.assertEqual(answers(joined(line(ALL, A), rule(B, C), rule(A, D))), [1, 0, 1, 0, 1, 1])
         self.assertEqual(firsts(normally(B, C), normally(ALL, A), rule(B, C), line(A, B)), [0, 0, 0, 0])
         self.assertEqual(firsts(normally(some(0, A), some(1, B)), rule(B, C)), [0, 0])
+        self.assertEqual(ask(rule(A, NONE), rule(B, C), ranks(), always(A, NONE))[2:], [[1, 0, 1], [1]])
+        self.assertEqual(ask(ranks(), always(A, NONE), rank(NONE), drop(0)), [[0], [0], [0, 0], [-2]])
         for again in range(3):
             self.assertEqual(answers(SOME_CALLS), THEIR_ANSWERS)
 
@@ -91,6 +139,32 @@ class Interface(unittest.TestCase):
         asked = [normally(A, C), normally(B, C)] * 5
         self.assertEqual(firsts(*state, *refused, *asked), [0, 0, 1] + [-7] * 47 + [1, 0] * 5)
         self.assertEqual(ask(*[begins()] * 60), [[0]] * 60)
+        self.assertEqual(ask(*[drop(0)] * 60), [[-2]] * 60)
+
+    def test_as_many_questions_as_may_be(self):
+        state = [line(B, A), rule(A, C), rule(B, lacks(C)), rule(A, D), line(ALL, A)]
+        questions = [(normally(B, lacks(C)), [1]), (always(B, C), [0]), (rank(B), [1, 2]), (ranks(), [2, 1, 2, 1])]
+        for call, answer in questions:
+            self.assertEqual(ask(*state, *[call] * 10)[5:], [answer] * 10)
+        asked = [call for call, answer in questions] * 2 + [questions[2][0], questions[3][0]]
+        expected = [answer for call, answer in questions] * 2 + [questions[2][1], questions[3][1]]
+        self.assertEqual(ask(*state, *[drop(3)] * 45, *asked), [[0], [0], [1], [2], [1]] + [[-2]] * 45 + expected)
+
+    def test_as_many_numbers_as_may_be(self):
+        all_four = both(both(A, B), both(C, D))
+        pair = (5,) * 8 + all_four + all_four
+        asked = [line(pair)] * 4 + [rule(pair)] * 46
+        asked += [normally(pair), always(pair), rank((5,) * 19 + all_four)] * 3 + [rank((5,) * 18 + lacks(all_four))]
+        self.assertEqual([len(call) for call in asked], [32] * 60)
+        expected = [[0], [1], [2], [-7], [0]] + [[-4]] * 45 + [[1], [1], [0, 1]] * 3 + [[0, 1]]
+        self.assertEqual(ask(*asked), expected)
+
+    def test_as_many_refused_numbers_as_may_be(self):
+        for call in (line, rule, normally, always, rank):
+            amount = 10 if call in (normally, always, rank) else 60
+            for numbers in ((5,) * 30, (3,) * 30, (6, 1) * 15, (7, 0) * 15, (0,) * 30, (4294967295,) * 30):
+                with self.subTest(call=call.__name__, numbers=numbers):
+                    self.assertEqual(ask(*[call(numbers)] * amount), [[-1]] * amount)
 
 
 class Begins(unittest.TestCase):

@@ -4,7 +4,8 @@ import itertools
 import unittest
 
 from tests.asking import (
-    ALL, NONE, A, B, C, D, ask, begins, both, either, holds, lacks, last, line, normally, only, rule, some,
+    ALL, NONE, A, B, C, D, always, ask, begins, both, drop, either, holds, lacks, last, line, normally, only, rank,
+    ranks, rule, some,
 )
 
 NAMED = [ALL, NONE, A, B, C, lacks(A), lacks(B), both(A, B), both(B, C), both(A, lacks(C)), either(B, C)]
@@ -37,13 +38,34 @@ class Answers:
         self.calls = [line(*axiom) for axiom in axioms] + [rule(*pair) for pair in rules]
         self.known = {}
 
+    def answer(self, call):
+        key = tuple(call)
+        if key not in self.known:
+            self.known[key] = ask(*self.calls, call)[-1]
+            if self.known[key][0] < 0:
+                raise AssertionError(f"{self.known[key]} is no answer to {self.calls} and {call}")
+        return self.known[key]
+
     def holds(self, first, second):
-        if (first, second) not in self.known:
-            answer = holds(self.calls, first, second)
-            if answer not in (0, 1):
-                raise AssertionError(f"{answer} is no answer to {self.calls} and {first}, {second}")
-            self.known[first, second] = answer
-        return self.known[first, second] == 1
+        return self.truth(normally(first, second))
+
+    def always(self, first, second):
+        return self.truth(always(first, second))
+
+    def truth(self, call):
+        answer = self.answer(call)
+        if answer not in ([0], [1]):
+            raise AssertionError(f"{answer} is no answer to {self.calls} and {call}")
+        return answer == [1]
+
+    def rank(self, concept):
+        return self.answer(rank(concept))[0]
+
+    def amount(self):
+        return self.answer(ranks())[0]
+
+    def counts(self):
+        return self.answer(ranks())[1:]
 
 
 class Requirements(unittest.TestCase):
@@ -60,10 +82,32 @@ class Requirements(unittest.TestCase):
                 if given.holds(first, second):
                     self.assertTrue(service.holds(first, second), (first, second))
 
+    def test_1_what_always_holds_normally_holds(self):
+        for service, final, given, rules, concepts in self.each():
+            for first, second in itertools.product(concepts, repeat=2):
+                self.assertEqual(service.always(first, second), final.holds(first, second), (first, second))
+                if given.always(first, second):
+                    self.assertTrue(service.always(first, second), (first, second))
+                if service.always(first, second):
+                    self.assertTrue(service.holds(first, second), (first, second))
+
+    def test_1_after_drop_the_other_rules_normally_hold(self):
+        for axioms, rules, added, concepts in SERVICES:
+            for number in range(len(rules)):
+                left = rules[:number] + rules[number + 1:]
+                after, service = Answers(axioms, rules), Answers(axioms, left)
+                after.calls = after.calls + [drop(number)]
+                with self.subTest(axioms=axioms, rules=rules, number=number):
+                    for first, second in left:
+                        self.assertTrue(after.holds(first, second), (first, second))
+                    self.same(service, after, concepts)
+                    self.same_ranks(service, after, concepts)
+
     def test_2_each_concept_normally_holds_for_itself(self):
         for service, final, given, rules, concepts in self.each():
             for concept in concepts:
                 self.assertTrue(service.holds(concept, concept), concept)
+                self.assertTrue(service.always(concept, concept), concept)
 
     def test_2_concepts_that_subsume_each_other(self):
         for service, final, given, rules, concepts in self.each():
@@ -71,9 +115,11 @@ class Requirements(unittest.TestCase):
                 if given.holds(first, second) and given.holds(second, first):
                     for other in concepts:
                         self.assertEqual(service.holds(first, other), service.holds(second, other))
+                    self.assertEqual(service.rank(first), service.rank(second), (first, second))
             for first, second in itertools.product(concepts, repeat=2):
                 alike = lacks(lacks(both(first, either(first, first))))
                 self.assertEqual(service.holds(alike, second), service.holds(first, second))
+                self.assertEqual(service.rank(alike), service.rank(first))
 
     def test_2_conjunctions_and_disjunctions(self):
         for service, final, given, rules, concepts in self.each():
@@ -84,6 +130,16 @@ class Requirements(unittest.TestCase):
                 either_of = either(first, second)
                 if service.holds(first, concept) and service.holds(second, concept):
                     self.assertTrue(service.holds(either_of, concept), (either_of, concept))
+                if service.always(concept, first) and service.always(concept, second):
+                    self.assertTrue(service.always(concept, together), (concept, together))
+
+    def test_2_the_rank_of_a_disjunction(self):
+        for service, final, given, rules, concepts in self.each():
+            for first, second in itertools.product(concepts, repeat=2):
+                expected = min(service.rank(first), service.rank(second))
+                self.assertEqual(service.rank(either(first, second)), expected, (first, second))
+                if service.always(first, second):
+                    self.assertLessEqual(service.rank(second), service.rank(first))
 
     def test_2_what_subsumes_normally_holds_too(self):
         for service, final, given, rules, concepts in self.each():
@@ -99,6 +155,15 @@ class Requirements(unittest.TestCase):
                         if service.holds(concept, second):
                             self.assertTrue(service.holds(both(concept, other), second), (concept, other, second))
 
+    def test_3_a_conjunction_keeps_the_rank(self):
+        for service, final, given, rules, concepts in self.each():
+            for concept, other in itertools.product(concepts, repeat=2):
+                rank_of_both = service.rank(both(concept, other))
+                if not service.holds(concept, lacks(other)) or service.rank(concept) == service.amount():
+                    self.assertEqual(rank_of_both, service.rank(concept), (concept, other))
+                else:
+                    self.assertGreater(rank_of_both, service.rank(concept), (concept, other))
+
     def test_3_only_then(self):
         birds = [line(B, A), rule(A, C), rule(B, lacks(C))]
         self.assertEqual(holds(birds, A, lacks(B)), 1)
@@ -108,6 +173,9 @@ class Requirements(unittest.TestCase):
         for service, final, given, rules, concepts in self.each():
             for concept in concepts:
                 self.assertEqual(service.holds(concept, NONE), final.holds(concept, NONE), concept)
+                self.assertEqual(service.holds(concept, NONE), service.always(concept, NONE), concept)
+                if service.always(concept, NONE):
+                    self.assertEqual(service.rank(concept), service.amount(), concept)
 
     def test_5_concepts_of_rank_0_have_all_rules(self):
         for axioms, rules, added, concepts in SERVICES:
@@ -119,8 +187,14 @@ class Requirements(unittest.TestCase):
                         satisfied = both(satisfied, either(lacks(first), second))
                 for concept, second in itertools.product(concepts, repeat=2):
                     normal = both(concept, satisfied)
-                    if len(normal + second) <= 30 and not final.holds(normal, NONE):
-                        self.assertEqual(service.holds(concept, second), final.holds(normal, second))
+                    if len(normal + second) <= 30:
+                        self.assertEqual(service.rank(concept) == 0, self.has_rank_0(service, normal), concept)
+                        if service.rank(concept) == 0:
+                            self.assertEqual(service.holds(concept, second), service.always(normal, second))
+                            self.assertEqual(service.holds(concept, second), final.holds(normal, second))
+
+    def has_rank_0(self, service, normal):
+        return service.amount() == 0 or not service.always(normal, NONE)
 
     def test_6_each_rank_has_some_of_the_rules_before_it(self):
         # Wings are a rule of the first rank alone, so they are lost with the first exception;
@@ -130,6 +204,21 @@ class Requirements(unittest.TestCase):
         for concept, answers in expected.items():
             with self.subTest(concept=concept):
                 self.assertEqual(tuple(holds(state, concept, second) for second in (C, lacks(C), D)), answers)
+
+    def test_6_ranks_tell_of_each_rank_which_rules_it_has(self):
+        for axioms, rules, added, concepts in SERVICES:
+            service = Answers(axioms, rules)
+            counts, amount = service.counts(), service.amount()
+            self.assertEqual(len(counts), len(rules))
+            with self.subTest(axioms=axioms, rules=rules):
+                sizes = [sum(1 for count in counts if count > place) for place in range(amount + 1)]
+                self.assertEqual(sizes[0], sum(1 for first, second in rules if (first, NONE) not in added))
+                self.assertEqual(sizes[amount], 0)
+                for place in range(amount):
+                    self.assertLess(sizes[place + 1], sizes[place])
+                for (first, second), count in zip(rules, counts):
+                    # It is exceptional just for the ranks ahead of the last one that its rule is in.
+                    self.assertEqual(service.rank(first), count - 1 if count > 0 else amount, first)
 
     def test_6_first_concepts_of_the_last_rank_are_not_exceptional(self):
         for service, final, given, rules, concepts in self.each():
@@ -148,6 +237,17 @@ class Requirements(unittest.TestCase):
         for first, second, expected in table:
             with self.subTest(first=first, second=second):
                 self.assertEqual(holds(state, first, second), expected)
+                self.assertEqual(last(*state, always(first, second)), expected)
+                self.assertEqual(ask(*state, rank(first), ranks())[-2:], [[0, 0], [0]])
+
+    def test_7_without_rules_what_always_holds_normally_holds(self):
+        for axioms, rules, added, concepts in SERVICES:
+            service = Answers(axioms, rules)
+            service.calls = service.calls + [drop(0)] * len(rules)
+            for first, second in itertools.product(concepts, repeat=2):
+                self.assertEqual(service.holds(first, second), service.always(first, second), (first, second))
+                self.assertEqual(service.answer(rank(first)), [0, 0])
+            self.assertEqual(service.answer(ranks()), [0])
 
     def test_7_a_rule_that_holds_anyway_changes_nothing(self):
         for axioms, rules, added, concepts in SERVICES:
@@ -158,12 +258,23 @@ class Requirements(unittest.TestCase):
                         with self.subTest(axioms=axioms, rules=more):
                             self.same(service, Answers(axioms, more), concepts)
 
+    def test_7_a_rule_that_holds_anyway_may_be_dropped(self):
+        for axioms, rules, added, concepts in SERVICES:
+            service, after = Answers(axioms, rules), Answers(axioms, rules)
+            after.calls = after.calls + [rule(A, A), drop(len(rules))]
+            self.same(service, after, concepts)
+            self.same_ranks(service, after, concepts)
+
     def test_7_the_order_of_the_rules_does_not_matter(self):
         for axioms, rules, added, concepts in SERVICES:
             service = Answers(axioms, rules)
             for ordered in itertools.permutations(rules):
                 with self.subTest(axioms=axioms, rules=ordered):
-                    self.same(service, Answers(axioms, list(ordered)), concepts)
+                    other = Answers(axioms, list(ordered))
+                    self.same(service, other, concepts)
+                    self.same_rank(service, other, concepts)
+                    counts = dict(zip(rules, service.counts()))
+                    self.assertEqual(other.counts(), [counts[pair] for pair in ordered])
 
     def test_7_the_order_of_axioms_and_rules_does_not_matter(self):
         calls = [line(B, A), rule(A, C), rule(B, lacks(C)), line(C, either(A, B))]
@@ -175,16 +286,32 @@ class Requirements(unittest.TestCase):
     def same(self, service, other, concepts):
         for first, second in itertools.product(concepts, repeat=2):
             self.assertEqual(service.holds(first, second), other.holds(first, second), (first, second))
+            self.assertEqual(service.always(first, second), other.always(first, second), (first, second))
+
+    def same_rank(self, service, other, concepts):
+        for concept in concepts:
+            self.assertEqual(service.answer(rank(concept)), other.answer(rank(concept)), concept)
+
+    def same_ranks(self, service, other, concepts):
+        self.same_rank(service, other, concepts)
+        self.assertEqual(service.answer(ranks()), other.answer(ranks()))
 
     def test_8_an_error_changes_nothing(self):
+        many = both(both(A, B), both(C, D))
+        errors = [
+            (line(A), -1), (line(many, some(1, ALL)), -7), (rule(A, B, C), -1), (rule(many, some(1, ALL)), -7),
+            (normally(), -1), (normally(many, some(1, ALL)), -7), (always((2, 4), A), -1),
+            (always(some(1, ALL), many), -7), (rank(A, B), -1), (rank(both(many, some(1, ALL))), -7),
+            (drop(4), -2), (drop(4294967295), -2),
+        ]
         for axioms, rules, added, concepts in SERVICES:
-            service = Answers(axioms, rules)
-            for wrong in ([line(A)], [rule(*rules[0])], [rule(both(both(A, B), both(C, D)), some(1, ALL))]):
-                after = Answers(axioms, rules)
-                self.assertLess(last(*after.calls, *wrong), 0)
-                after.calls = after.calls + wrong
-                with self.subTest(axioms=axioms, rules=rules, wrong=wrong):
-                    self.same(service, after, concepts)
+            service, after = Answers(axioms, rules), Answers(axioms, rules)
+            refused = errors + [(rule(*rules[0]), -4), (drop(len(rules)), -2)]
+            after.calls = after.calls + [call for call, code in refused]
+            with self.subTest(axioms=axioms, rules=rules):
+                self.assertEqual(ask(*after.calls)[-len(refused):], [[code] for call, code in refused])
+                self.same(service, after, concepts)
+                self.same_ranks(service, after, concepts)
 
     def test_begins_removes_all(self):
         empty = Answers([], [])
@@ -193,6 +320,7 @@ class Requirements(unittest.TestCase):
             after.calls = after.calls + [begins()]
             with self.subTest(axioms=axioms, rules=rules):
                 self.same(empty, after, concepts)
+                self.same_ranks(empty, after, concepts)
                 self.assertEqual(ask(*after.calls, line(C, D), rule(C, D), normally(D, C))[-3:], [[0], [0], [0]])
 
 
